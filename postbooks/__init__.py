@@ -1,0 +1,1 @@
+"""Postbooks: letters among offices, and a cut through all their books."""
